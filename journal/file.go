@@ -223,7 +223,7 @@ func (j *Journal) replayEntry(r *octet.Reader) {
 		r.Bad()
 		return
 	}
-	j.entries = append(j.entries, e)
+	j.push(e)
 }
 
 func (j *Journal) replayCut(r *octet.Reader) {

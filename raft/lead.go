@@ -1,6 +1,10 @@
 package raft
 
-import "satrapy/api"
+import (
+	"slices"
+
+	"satrapy/api"
+)
 
 // timeUp is what a node does when it waited long enough.
 func (r *Node) timeUp(draw int) {
@@ -78,9 +82,8 @@ func (r *Node) spread() {
 
 // count finds what is agreed upon by now, and tells whether that is more.
 func (r *Node) count() bool {
-	last, _ := r.Last()
-	for i := last; i > r.commit; i-- {
-		if term, _ := r.TermAt(i); term != r.term() || !r.most(r.hasEntry(i)) {
+	for i := r.mostHave(); i > r.commit; i-- {
+		if term, _ := r.TermAt(i); term != r.term() {
 			continue
 		}
 		r.commit = i
@@ -90,8 +93,19 @@ func (r *Node) count() bool {
 	return false
 }
 
-func (r *Node) hasEntry(index int) func(node int) bool {
-	return func(node int) bool { return node == r.id || r.peers[node].match >= index }
+// mostHave is the greatest number up to which most of the group have entries.
+func (r *Node) mostHave() int {
+	last, _ := r.Last()
+	var have []int
+	for _, n := range r.Nodes() {
+		if n == r.id {
+			have = append(have, last)
+		} else {
+			have = append(have, r.peers[n].match)
+		}
+	}
+	slices.Sort(have)
+	return have[(len(have)-1)/2]
 }
 
 // leaveIfOut steps back, if it is agreed upon that it is not of the group any more.
