@@ -175,9 +175,10 @@ func many(n int) api.Map {
 // right is maps that may be.
 func right() map[string]api.Map {
 	return map[string]api.Map{
-		"one":    mapOf(z(49, "", "", 8, 1)),
-		"bounds": {Version: top, Next: top, Zones: []api.Zone{z(top-1, "", "", 8, top)}},
-		"16":     many(16),
+		"one":       mapOf(z(49, "", "", 8, 1)),
+		"the least": {Version: 1, Next: 2, Zones: []api.Zone{z(1, "", "", 8, 1)}},
+		"bounds":    {Version: top, Next: top, Zones: []api.Zone{z(top-1, "", "", 8, top)}},
+		"16":        many(16),
 		"all sorts": mapOf(
 			pend(z(7, "", "b", 8, 1), api.DirMove, 9, "", 0),
 			pend(z(3, "b", "d", 8, 4), api.DirSplit, 0, "c", 49),
@@ -265,6 +266,7 @@ func changes() map[string]struct {
 		}
 		add("a great Zone", true, func(c *api.Change) { c.Zone = top })
 		add("a great Epoch", ends, func(c *api.Change) { c.Epoch = top })
+		add("To 1", kind == api.DirMove, func(c *api.Change) { c.To = 1 })
 		add("a great To", kind == api.DirMove, func(c *api.Change) { c.To = 1 << 20 })
 		add("a greater To", false, func(c *api.Change) { c.To = 1<<20 + 1 })
 		add("no Key", kind != api.DirSplit, func(c *api.Change) { c.Key = "" })
@@ -336,6 +338,13 @@ func TestMerge(t *testing.T) {
 	applies(t, d, merge(2), true)
 	applies(t, d, done(2, 4), true)
 	holds(t, d, 11, 51, z(3, "", "d", 8, 8), z(2, "d", "x", 9, 6), z(50, "x", "", 9, 5))
+}
+
+func TestMergeOfAll(t *testing.T) {
+	d := of(t, mapOf(z(1, "", "m", 8, 1), z(2, "m", "", 8, 1)), 8)
+	applies(t, d, merge(1), true)
+	applies(t, d, done(1, 1), true)
+	holds(t, d, 7, 50, z(1, "", "", 8, 2))
 }
 
 func TestMove(t *testing.T) {
@@ -423,6 +432,14 @@ func raw(m api.Map) []byte {
 		w.Nums(z.New)
 	}
 	return w.Out()
+}
+
+func TestOwnersThatAreNoHosts(t *testing.T) {
+	for _, m := range []api.Map{mapOf(z(1, "", "", 1, 1)), mapOf(z(1, "", "", 1<<20, 1)), mapOf(pend(z(1, "", "", 8, 1), api.DirMove, 1, "", 0)), mapOf(pend(z(1, "", "", 8, 1), api.DirMove, 1<<20, "", 0))} {
+		if got, err := dir.Decode(raw(m)); err != api.OK || !reflect.DeepEqual(got, m) {
+			t.Error(m, err)
+		}
+	}
 }
 
 func TestMapsAsBytes(t *testing.T) {

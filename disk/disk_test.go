@@ -395,6 +395,13 @@ func TestNewMemory(t *testing.T) {
 	holds(t, d, "a", "a123")
 }
 
+func TestAZeroDiskHasNoRoom(t *testing.T) {
+	var d disk.Disk
+	want(t, "Append", d.Append("a", []byte("x")), api.ErrFull)
+	want(t, "Append of nothing", d.Append("a"), api.OK)
+	holds(t, &d, "a", "")
+}
+
 func TestNilDisk(t *testing.T) {
 	var d *disk.Disk
 	for what, err := range five(d, "a", "b") {

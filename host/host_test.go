@@ -230,6 +230,11 @@ func TestOpenErrs(t *testing.T) {
 		}
 	}
 	d = fresh(t)
+	keep.Save(d, "host", nums(top))
+	if h, err := host.Open(8, d, 1); h == nil || err != api.OK {
+		t.Error("the greatest floor", err)
+	}
+	d = fresh(t)
 	d.Append("host", []byte("no record"))
 	if h, err := host.Open(8, d, 1); h != nil || err != api.ErrForm {
 		t.Error(err)
@@ -607,6 +612,52 @@ func TestAZoneComes(t *testing.T) {
 	}
 }
 
+func TestAZoneComesInPieces(t *testing.T) {
+	var l []api.Op
+	for i := range 60 {
+		l = append(l, api.Op{Kind: api.OpMint, Client: 1, Seq: i + 1, At: at("a", fmt.Sprint("somebody ", i)), Count: 5})
+	}
+	img := image(l...)
+	h := open(t, 8, fresh(t))
+	for _, m := range []api.Msg{tell(t, 8, 2, splits(z(1, "", "", 9, 1), "m", 3)), tell(t, 8, 3, z(1, "", "", 8, 1)), tell(t, 8, 4, moves(z(2, "", "", 9, 1), 8)), tell(t, 8, 5, moves(z(1, "", "", 9, 1), 8))} {
+		h.Hear(m)
+		piece := func(offset int) api.Msg {
+			end := min(len(img), offset+api.Chunk)
+			return msg(t, 9, 8, wire.Word{Kind: wire.Copy, Zone: 1, Epoch: 2, Index: 7, Size: len(img), Offset: offset, Data: img[offset:end]})
+		}
+		if h.Map().Version < 5 {
+			is(t, "it does not come", 8, h.Hear(piece(0)))
+			continue
+		}
+		for at := 0; at < len(img); at += api.Chunk {
+			is(t, "a piece", 8, h.Hear(piece(at)), out{9, wire.Word{Kind: wire.Copied, Zone: 1, Epoch: 2, Index: 7, Offset: min(len(img), at+api.Chunk)}})
+		}
+		has(t, "all pieces", h, head(1, "", "", 2, api.Coming))
+	}
+	if !bytes.Equal(h.Econ(1).Encode(), img) {
+		t.Error("another economy has come")
+	}
+}
+
+func TestSourcesThatAreNoMore(t *testing.T) {
+	for name, m := range map[string]api.Zone{"aborted": z(1, "", "", 8, 2), "moved on": moves(z(1, "", "", 8, 2), 10), "split": splits(z(1, "", "", 8, 2), "m", 3)} {
+		h := serving(t, fresh(t))
+		does(t, h, mint(1, "a", 5))
+		h.Hear(tell(t, 8, 2, moves(z(1, "", "", 8, 1), 9)))
+		ticks(h, 4)
+		h.Hear(tell(t, 8, 3, m))
+		is(t, name, 8, h.Hear(msg(t, 9, 8, wire.Word{Kind: wire.Copied, Zone: 1, Epoch: 2, Index: 1})))
+		is(t, name, 8, h.Hear(msg(t, 9, 8, wire.Word{Kind: wire.Copied, Zone: 1, Epoch: 3, Index: 1})))
+	}
+	h := serving(t, fresh(t))
+	h.Hear(tell(t, 8, 2, moves(z(1, "", "", 8, 1), 9)))
+	ticks(h, 4)
+	h.Hear(tell(t, 8, 3, moves(z(1, "", "", 8, 1), 9)))
+	if l := h.Hear(msg(t, 9, 8, wire.Word{Kind: wire.Copied, Zone: 1, Epoch: 2})); len(l) != 1 {
+		t.Error("it still moves", l)
+	}
+}
+
 func TestACopyOfWhatItHas(t *testing.T) {
 	for _, state := range []int{api.Serving, api.Frozen} {
 		h := with(t, fresh(t), 2, map[zone.Head][]byte{head(1, "", "", 2, state): image()})
@@ -655,10 +706,9 @@ func TestTheFirstZone(t *testing.T) {
 func TestTheFloorIsSaved(t *testing.T) {
 	d := fresh(t)
 	h := with(t, d, 300, nil)
-	h.Hear(tell(t, 8, 300, z(1, "", "", 9, 3)))
 	d.Fuse(0)
 	h.Hear(tell(t, 8, 300, z(1, "", "", 9, 3)))
-	if h.Dead() {
+	if h.Dead() || h.Map().Version != 300 {
 		t.Error("nothing is written, if it is not above")
 	}
 	d.Fuse(3)

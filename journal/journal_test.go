@@ -262,6 +262,7 @@ func TestOpenOfLogs(t *testing.T) {
 		"votes":               {[][]byte{first, nums(2, 1, 0), nums(2, 1, 3), nums(2, 1, 3), nums(2, top, 7)}, "term 1099511627776 6 base 0 0 [0]  last 0 0 nodes [0] 0"},
 		"a cut at the end":    {[][]byte{first, entry(1, 1, 0, ""), nums(4, 2)}, "term 0 -1 base 0 0 [0]  last 1 1 nodes [0] 0 | 1 0  [] 0"},
 		"a cut at the base":   {[][]byte{first, nums(4, 1)}, "term 0 -1 base 0 0 [0]  last 0 0 nodes [0] 0"},
+		"seven nodes":         {[][]byte{nums(1, 0, 0, 7, 0, 1, 2, 3, 4, 5, 6), entry(1, top, 2, "", 0, 1, 2, 3, 4, 5, 6)}, "term 0 -1 base 0 0 [0 1 2 3 4 5 6]  last 1 1099511627776 nodes [0 1 2 3 4 5 6] 1 | 1099511627776 2  [0 1 2 3 4 5 6] 0"},
 		"a cut and once more": {[][]byte{first, entry(1, 1, 2, "", 3), entry(2, 1, 0, ""), nums(4, 1), entry(1, 2, 1, "z")}, "term 0 -1 base 0 0 [0]  last 1 2 nodes [0] 0 | 2 1 z [] 0"},
 	} {
 		d := fresh(t)
@@ -331,6 +332,7 @@ func TestOpenWithASnapshot(t *testing.T) {
 		"of 2^40 and 1":   {snapshot(top+1, 3, "s", 1, 2), nil, ""},
 		"of a great term": {snapshot(3, top+1, "s", 1, 2), nil, ""},
 		"at the bounds":   {snapshot(top, top, "", 6), nil, "term 0 -1 base 1099511627776 1099511627776 [6]  last 1099511627776 1099511627776 nodes [6] 1099511627776"},
+		"up to 2^40":      {snapshot(top-1, 3, "", 6), [][]byte{nums(1, top-1, 3, 1, 6), entry(top, 3, 0, "")}, "term 0 -1 base 1099511627775 3 [6]  last 1099511627776 3 nodes [6] 1099511627775 | 3 0  [] 0"},
 		"of no group":     {snapshot(3, 3, "s"), nil, ""},
 		"that goes on":    {append(snapshot(3, 3, "s", 1), 0), nil, ""},
 		"that ends":       {snapshot(3, 3, "s", 1)[:4], nil, ""},
@@ -377,6 +379,9 @@ func TestSetTerm(t *testing.T) {
 	} {
 		if err := j.SetTerm(c.term, c.vote); err != c.want {
 			t.Errorf("SetTerm(%d, %d): %v, not %v", c.term, c.vote, err, c.want)
+		}
+		if term, vote := j.Term(); c.want == api.OK && (term != c.term || vote != c.vote) {
+			t.Errorf("SetTerm(%d, %d): Term %d, %d", c.term, c.vote, term, vote)
 		}
 	}
 	if term, vote := j.Term(); term != top || vote != 0 {
@@ -481,6 +486,8 @@ func TestCompact(t *testing.T) {
 		}
 	}
 	want(t, "the base", j.Compact(3, nil), api.ErrArg)
+	d.Append("p-log~", []byte("left behind"))
+	d.Append("p-snap~", []byte("left behind"))
 	want(t, "the most data", j.Compact(4, make([]byte, 1<<19)), api.OK)
 	d.Crash(0)
 	j = open(t, d, 6)
@@ -526,6 +533,7 @@ func TestInstall(t *testing.T) {
 			t.Error(s)
 		}
 	}
+	want(t, "of term 0", j.Install(4, 0, []int{5}, nil), api.OK)
 	want(t, "beyond", j.Install(top, top, []int{6}, make([]byte, 1<<19)), api.OK)
 	if index, term := open(t, d, 0).Last(); index != top || term != top {
 		t.Error(index, term)

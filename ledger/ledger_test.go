@@ -146,6 +146,7 @@ func TestOpenOfLogs(t *testing.T) {
 		"an image alone":        {numbered(5, "i"), nil, "5 i to 5", false},
 		"an image of number 0":  {numbered(0, "i"), nil, "0 i to 0", false},
 		"an image at the bound": {numbered(top, ""), nil, "1099511627776  to 1099511627776", false},
+		"a log at the bound":    {numbered(top-1, ""), [][]byte{numbered(top, "a")}, "1099511627775  to 1099511627776 | a 0", true},
 		"a log alone":           {nil, [][]byte{numbered(1, "a"), numbered(2, "")}, "0  to 2 | a 0 |  0", true},
 		"both":                  {numbered(5, "i"), [][]byte{numbered(6, "a"), numbered(7, "b")}, "5 i to 7 | a 0 | b 0", true},
 		"some are past":         {numbered(5, "i"), [][]byte{numbered(4, "z"), numbered(5, "y"), numbered(6, "a")}, "5 i to 6 | a 0", true},
@@ -334,10 +335,18 @@ func TestDead(t *testing.T) {
 			isDead(t, l)
 		}
 	}
+	for fuse := range 2 {
+		d := fresh(t)
+		l := open(t, d)
+		d.Fuse(fuse)
+		if n, err := l.Append([]byte("z")); n != 0 || err != api.ErrDead {
+			t.Error(n, err)
+		}
+	}
 	small, _ := disk.New(60)
 	l := open(t, small)
-	if _, err := l.Append(make([]byte, 100)); err != api.ErrFull {
-		t.Error(err)
+	if n, err := l.Append(make([]byte, 100)); n != 0 || err != api.ErrFull {
+		t.Error(n, err)
 	}
 	isDead(t, l)
 }

@@ -55,7 +55,7 @@ func TestOut(t *testing.T) {
 			t.Error("Ack", n)
 		}
 	}
-	if !o.Ack(1000) || o.Ack(999) {
+	if !o.Ack(4) || !o.Ack(1000) || o.Ack(999) {
 		t.Error("Ack 1000")
 	}
 	next(1000, 1200)

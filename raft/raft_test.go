@@ -277,7 +277,26 @@ func TestHearNothing(t *testing.T) {
 		r := open(t, 0, fresh(t), 0, 0, 1)
 		sends(t, name, r.Hear(m, 0))
 		says(t, name, r, api.Follower, 0, -1)
+		if len(r.Nodes()) == 0 {
+			t.Error(name, "it stopped")
+		}
 	}
+}
+
+func TestMessagesAtTheirBounds(t *testing.T) {
+	r := open(t, 0, fresh(t), 0, 0, 1)
+	eight := append([]any{3, 1, 0, 0, 0, top, 8}, slices.Repeat([]any{1, 0, "", 0}, 8)...)
+	sends(t, "eight entries", r.Hear(msg(1, 0, eight...), 0), msg(0, 1, 4, 1, 1, 8, top))
+	long := strings.Repeat("x", 1<<16)
+	sends(t, "long data, and seven nodes", r.Hear(msg(1, 0, 3, 1, 8, 1, top, 0, 2, 1, 1, long, 0, 1, 2, "", 7, 0, 1, 2, 3, 4, 5, 6), 0), msg(0, 1, 4, 1, 1, 10, 0))
+	logs(t, "commit", r, 0, 10, 10)
+	if len(r.Nodes()) != 7 {
+		t.Error(r.Nodes())
+	}
+	sends(t, "the greatest term", r.Hear(msg(1, 0, 3, top, 10, 1, 0, 0, 1, top, 0, "", 0), 0), msg(0, 1, 4, top, 1, 11, 0))
+	r = open(t, 0, fresh(t), 0, 0, 1)
+	sends(t, "a piece", r.Hear(msg(1, 0, 5, 1, top, top, api.Chunk, 0, 0, 7, 0, 1, 2, 3, 4, 5, 6, strings.Repeat("x", api.Chunk)), 0), msg(0, 1, 6, 1, top, api.Chunk, 0))
+	logs(t, "a snapshot of the greatest number", r, top, top, top)
 }
 
 func TestHearAGreaterTerm(t *testing.T) {
@@ -466,6 +485,11 @@ func TestEntriesEndALeader(t *testing.T) {
 	if l := r.Reads(); !slices.Equal(l, []raft.Read{{Ctx: 77, Index: 1}}) {
 		t.Error(l)
 	}
+	r.Hear(msg(2, 0, 3, 2, 1, 1, 1, 0, 0), 5)
+	r.Hear(msg(1, 0, 2, 2, 0), 5)
+	if l := r.Reads(); len(l) != 0 {
+		t.Error("settled twice", l)
+	}
 	sends(t, "it waits anew", ticks(r, 14))
 	ticks(r, 1)
 	says(t, "it stands", r, api.Candidate, 3, -1)
@@ -491,6 +515,7 @@ func TestTookEntries(t *testing.T) {
 		}
 		return l
 	}
+	sends(t, "1: at most eight", r.Hear(msg(2, 0, 4, 1, 0, 1, 0), 0), msg(0, 2, append([]any{3, 1, 1, 1, 0, 0, 8}, row(8)...)...))
 	sends(t, "2: the others follow", r.Hear(msg(1, 0, 4, 1, 1, 2, 0), 0), msg(0, 1, append([]any{3, 1, 2, 1, 2, 0, 8}, row(8)...)...))
 	logs(t, "2", r, 0, 10, 2)
 	sends(t, "1, late", r.Hear(msg(1, 0, 4, 1, 1, 1, 0), 0), msg(0, 1, append([]any{3, 1, 2, 1, 2, 0, 8}, row(8)...)...))
@@ -499,6 +524,7 @@ func TestTookEntries(t *testing.T) {
 	sends(t, "all of it: commit grew", r.Hear(msg(1, 0, 4, 1, 1, 10, 0), 0), msg(0, 1, 3, 1, 10, 1, 10, 0, 0))
 	logs(t, "all of it", r, 0, 10, 10)
 	sends(t, "once more", r.Hear(msg(1, 0, 4, 1, 1, 10, 0), 0))
+	sends(t, "the third: the last one is left", r.Hear(msg(2, 0, 4, 1, 1, 9, 0), 0), msg(0, 2, append([]any{3, 1, 9, 1, 10, 0, 1}, row(1)...)...))
 	sends(t, "the third: nothing grew", r.Hear(msg(2, 0, 4, 1, 1, 10, 0), 0))
 }
 
@@ -547,6 +573,13 @@ func TestPiecesGo(t *testing.T) {
 	sends(t, "all", r.Hear(msg(2, 0, 6, 1, 2, 1200, 0), 0), msg(0, 2, 3, 1, 2, 1, 3, 0, 1, 1, 1, "y", 0))
 	sends(t, "all of it", r.Hear(msg(2, 0, 4, 1, 1, 3, 0), 0))
 	sends(t, "the pieces again", r.Hear(msg(2, 0, 6, 1, 2, 1200, 0), 0))
+	sends(t, "not below what it has", r.Hear(msg(2, 0, 4, 1, 0, 0, 0), 0), msg(0, 2, 3, 1, 3, 1, 3, 0, 0))
+	r = far(t, 1200)
+	r.Hear(msg(2, 0, 6, 1, 2, 700, 0), 0)
+	r.Hear(msg(2, 0, 6, 1, 2, 1200, 0), 0)
+	sends(t, "what has come counts", r.Hear(msg(2, 0, 4, 1, 0, 0, 0), 0), msg(0, 2, 3, 1, 2, 1, 3, 0, 1, 1, 1, "y", 0))
+	want(t, "Compact", r.Compact(3, []byte(s(600))), api.OK)
+	sends(t, "another snapshot begins at 0", r.Hear(msg(2, 0, 4, 1, 0, 2, 0), 0), msg(0, 2, 5, 1, 3, 1, 600, 0, 0, 3, 0, 1, 2, s(512)))
 	sends(t, "a snapshot without a byte", far(t, 0).Hear(msg(2, 0, 4, 1, 0, 0, 0), 0), msg(0, 2, 5, 1, 2, 1, 0, 0, 0, 3, 0, 1, 2, ""))
 }
 
@@ -711,8 +744,8 @@ func TestChange(t *testing.T) {
 		t.Error(n, l, err)
 	}
 	r = leader(t, fresh(t), 0, 1, 2)
-	if _, _, err := r.Change(9); err != api.ErrBusy {
-		t.Error("nothing of its term is agreed upon", err)
+	if n, l, err := r.Change(9); n != 0 || len(l) != 0 || err != api.ErrBusy {
+		t.Error("nothing of its term is agreed upon", n, l, err)
 	}
 	r.Hear(msg(1, 0, 4, 1, 1, 1, 0), 0)
 	for _, nodes := range [][]int{nil, {0, 1, 2}, {0}, {0, 1, 3}, {3}, {0, 1, 2, 3, 4}, {2, 1, 0, 3}, {0, 1, 2, 7}, {-1, 0, 1, 2}, {0, 0}, {1, 3}} {
@@ -806,6 +839,28 @@ func TestAsk(t *testing.T) {
 	r.Ask(8)
 	if l := r.Reads(); !slices.Equal(l, []raft.Read{{Ctx: 8, Index: 1, Ok: true}}) {
 		t.Error("alone", l)
+	}
+}
+
+func TestRoundsBeginAnew(t *testing.T) {
+	r := leader(t, fresh(t), 0, 1)
+	r.Hear(msg(1, 0, 4, 1, 1, 1, 0), 0)
+	r.Ask(1)
+	r.Ask(2)
+	r.Hear(msg(1, 0, 2, 5, 0), 0)
+	r.Reads()
+	for range 40 {
+		if role, _, _ := r.State(); role == api.Candidate {
+			break
+		}
+		r.Tick(0)
+	}
+	sends(t, "it leads again", r.Hear(msg(1, 0, 2, 6, 1), 0), msg(0, 1, 3, 6, 1, 1, 1, 0, 1, 6, 0, "", 0))
+	r.Hear(msg(1, 0, 4, 6, 1, 2, 2), 0)
+	l, _ := r.Ask(3)
+	sends(t, "a first round", l, msg(0, 1, 3, 6, 2, 6, 2, 1, 0))
+	if l := r.Reads(); !slices.Equal(l, []raft.Read{{Ctx: 3, Index: 2, Ok: true}}) {
+		t.Error("a round that was told is at or above it", l)
 	}
 }
 

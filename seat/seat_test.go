@@ -292,13 +292,29 @@ func TestCompact(t *testing.T) {
 	if was.Version != api.MaxLog || !slices.Contains(d.List(), "dir-snap") {
 		t.Error(was, d.List())
 	}
+	based := func() int {
+		j, err := journal.Open(d.Copy(), "dir", 0)
+		if err != api.OK {
+			t.Fatal(err)
+		}
+		index, _ := j.Base()
+		return index
+	}
+	for i := range api.MaxLog - 1 {
+		s.Hear(ask(t, 99, 0, change(api.MaxLog-1+i)), 0)
+		if based() != api.MaxLog {
+			t.Error("not yet once more", i)
+		}
+	}
+	s.Hear(ask(t, 99, 0, change(2*api.MaxLog-2)), 0)
+	if based() != 2*api.MaxLog {
+		t.Error("once more", based())
+	}
+	was = s.Map()
 	d.Crash(0)
 	j, err := journal.Open(d, "dir", 0)
 	if err != api.OK {
 		t.Fatal(err)
-	}
-	if index, _ := j.Base(); index != api.MaxLog {
-		t.Error(index)
 	}
 	if snap, _ := j.Snapshot(); !bytes.Equal(snap, dir.Encode(was)) {
 		t.Errorf("% x", snap)

@@ -7,6 +7,7 @@ import (
 
 	"satrapy/api"
 	"satrapy/tool"
+	"satrapy/world"
 )
 
 // runs a script; each row is a line and its answer, "-" for none at all.
@@ -38,6 +39,8 @@ func runs(t *testing.T, rows ...[2]string) {
 		i++
 	}
 }
+
+var long = strings.Repeat("k", api.MaxKey)
 
 func fails(e api.Errno) string { return "error " + strconv.Itoa(int(e)) }
 
@@ -111,6 +114,8 @@ func TestNewWorlds(t *testing.T) {
 func TestSteps(t *testing.T) {
 	none, arg := fails(api.ErrNone), fails(api.ErrArg)
 	runs(t,
+		[2]string{"new 1 3 2", "ok"},
+		[2]string{"tick 1", fails(api.ErrNone)}, [2]string{"tick 10", "ok"}, [2]string{"tick 11", fails(api.ErrNone)}, [2]string{"tick 33", "ok"}, [2]string{"tick 34", fails(api.ErrNone)},
 		[2]string{"new 1 2 2", "ok"},
 		[2]string{"rest 0", "ok"}, [2]string{"rest -5", "ok"},
 		[2]string{"tick 8", "ok"}, [2]string{"tick 8", "ok"}, [2]string{"tick 8", "ok"}, [2]string{"give 0", none}, [2]string{"lose 0", none},
@@ -124,8 +129,10 @@ func TestSteps(t *testing.T) {
 		[2]string{"split 1 m", "ok"}, [2]string{"rest 1", "ok"}, [2]string{"map", "2 1:8:1:1"}, [2]string{"rest 12", "ok"}, [2]string{"map", "3 1:8:2:0 2:8:2:0"},
 		[2]string{"move 2 9", "ok"}, [2]string{"rest 1", "ok"}, [2]string{"map", "4 1:8:2:0 2:8:2:3"},
 		[2]string{"abort 2 2", "ok"}, [2]string{"rest 12", "ok"}, [2]string{"map", "5 1:8:2:0 2:8:3:0"},
-		[2]string{"move 2 9", "ok"}, [2]string{"rest 30", "ok"}, [2]string{"map", "7 1:8:2:0 2:9:4:0"},
-		[2]string{"move 2 8", "ok"}, [2]string{"rest 30", "ok"}, [2]string{"merge 1", "ok"}, [2]string{"rest 20", "ok"}, [2]string{"map", "11 1:8:6:0"},
+		[2]string{"move 2 9", "ok"}, [2]string{"rest 1", "ok"}, [2]string{"abort 2 2", "ok"}, [2]string{"abort 3 3", "ok"}, [2]string{"rest 1", "ok"}, [2]string{"map", "6 1:8:2:0 2:8:3:3"},
+		[2]string{"abort 2 3", "ok"}, [2]string{"rest 12", "ok"}, [2]string{"map", "7 1:8:2:0 2:8:4:0"},
+		[2]string{"move 2 9", "ok"}, [2]string{"rest 30", "ok"}, [2]string{"map", "9 1:8:2:0 2:9:5:0"},
+		[2]string{"move 2 8", "ok"}, [2]string{"rest 30", "ok"}, [2]string{"merge 1", "ok"}, [2]string{"rest 20", "ok"}, [2]string{"map", "13 1:8:7:0"},
 		[2]string{"split 0 m", arg}, [2]string{"merge -1", arg}, [2]string{"move 1 0", arg}, [2]string{"abort 1 0", arg},
 		[2]string{"crash 0 0", "ok"}, [2]string{"map", "0"},
 	)
@@ -149,12 +156,32 @@ func TestRequests(t *testing.T) {
 		[2]string{"cancel 1 a y 1", "ok"}, [2]string{"rest 9", "ok"}, [2]string{"answers 1", "5 7 0 0 0 0 0"},
 		[2]string{"buy 0 a x 0 2 4", arg}, [2]string{"sell 0 a x 1 1 0", arg}, [2]string{"cancel 0 a x 0", arg},
 		[2]string{"judge", "-1 -1"},
-		[2]string{"at \xff \xfe", "0 0 0 0"},
+		[2]string{"at \xff \xfe", "0 0 0 0"}, [2]string{"at " + long + " " + long, "0 0 0 0"},
+		[2]string{"mint 0 " + long + " " + long + " 3 9", "ok"}, [2]string{"rest 9", "ok"}, [2]string{"at " + long + " " + long, "0 0 0 9"},
 	)
 }
 
 func TestJudgeOfNothing(t *testing.T) {
 	runs(t, [2]string{"new 1 1 4", "ok"}, [2]string{"judge", "-1 -1"}, [2]string{"rest 30", "ok"}, [2]string{"judge", "-1 -1"})
+}
+
+func TestTheRoom(t *testing.T) {
+	w, _ := world.New(world.Config{Seats: 1, Hosts: 1, Gates: 1, Room: 1 << 16})
+	script := "new 1 1 1\nrest 20\n"
+	w.Do(world.Step{Kind: world.StepRest, N: 20})
+	for i := 0; w.Up(api.FirstHost); i++ {
+		if i > 2000 {
+			t.Fatal("its disk is never full")
+		}
+		who := "somebody" + strconv.Itoa(i)
+		script += "mint 0 " + long + " " + who + " 3 1000000\nrest 9\n"
+		w.Do(world.Step{Kind: world.StepSubmit, Node: api.FirstGate, Op: api.Op{Kind: api.OpMint, At: api.Place{Key: long, Who: who}, Item: 3, Count: 1000000}})
+		w.Do(world.Step{Kind: world.StepRest, N: 9})
+	}
+	rows := strings.Split(tool.Run(script+"answers 0\nat a x\n"), "\n")
+	if n := strconv.Itoa(len(w.Gate(api.FirstGate).Answers())); !strings.HasPrefix(rows[len(rows)-3], n+" ") || rows[len(rows)-2] != "none" {
+		t.Errorf("%q, not %s answers", rows[len(rows)-3:], n)
+	}
 }
 
 // P28.2

@@ -128,6 +128,7 @@ func variants() map[string]variant {
 		add("a Span", has(kind, "Span"), func(w *wire.Word) { w.Span = api.Span{From: "x"} })
 		add("no Span", false, func(w *wire.Word) { w.Span = api.Span{From: "x", To: "a"} })
 		add("Data", has(kind, "Data"), func(w *wire.Word) { w.Data = []byte("1234") })
+		add("a byte of Data", has(kind, "Data"), func(w *wire.Word) { w.Data = []byte{7} })
 		add("empty Data", !has(kind, "Data"), func(w *wire.Word) { w.Data = []byte{} })
 		add("much Data", kind == wire.Raft || kind == wire.Ship, func(w *wire.Word) { w.Data = make([]byte, 1<<17) })
 		add("more Data", false, func(w *wire.Word) { w.Data = make([]byte, 1<<17+1) })
@@ -137,6 +138,7 @@ func variants() map[string]variant {
 		w.Size, w.Offset, w.Data = size, offset, make([]byte, n)
 		m["a Copy "+name] = variant{w, may}
 	}
+	copied("of one byte", true, 1, 0, 1)
 	copied("of Chunk", true, 1<<19, 1<<19-api.Chunk, api.Chunk)
 	copied("of more", false, 1<<19, 0, api.Chunk+1)
 	copied("beyond", false, 1<<19, 1<<19-api.Chunk+1, api.Chunk)

@@ -485,8 +485,63 @@ func TestRest(t *testing.T) {
 	does(t, x, rest(math.MaxInt))
 	y := made(t, 1, 1, 1)
 	does(t, y, rest(200))
-	if x.Disk(0).Used() != y.Disk(0).Used() || x.Len() != y.Len() {
-		t.Error("at most 200 rounds")
+	for _, w := range []*world.World{x, y} { // each fourth Tick of a host is a Pull
+		does(t, w, tick(8, 0), tick(8, 0), tick(8, 0))
+		if w.Len() != 0 {
+			t.Error("at most 200 rounds")
+		}
+		if does(t, w, tick(8, 0)); w.Len() != 1 {
+			t.Error("at least 200 rounds")
+		}
+	}
+}
+
+// A rest is what these steps are: all Tick, and what is under way is given.
+func TestARestIsStepByStep(t *testing.T) {
+	for seed := range 8 {
+		a, b := made(t, 2, 3, 4), made(t, 2, 3, 4)
+		both := func(l ...step) {
+			for _, w := range []*world.World{a, b} {
+				w.Run(l...)
+			}
+		}
+		both(rest(40), split(1, "m"), rest(20), move(2, 9), rest(40))
+		for i := range 40 {
+			for g := range 4 {
+				both(submit(32+g, mint(string(rune('a'+(i*7+g*11+seed)%26)), 1+i)))
+			}
+			if i%9 == 3 {
+				both(fuse([]int{8, 9, 0}[i%3], 1+(i+seed)%7))
+			}
+			if i%9 == 8 {
+				both(crash(8, 1), crash(9, 1), crash(0, 1), opened(8, 1), opened(9, 1), opened(0, 1), rest(20))
+			}
+			n := i % 4
+			does(t, a, step{Kind: world.StepRest, N: n, Draw: seed})
+			for round := range n {
+				for node := range 36 {
+					draw := 0
+					if node < 2 {
+						draw = node*7 + round
+					}
+					b.Do(step{Kind: world.StepTick, Node: node, N: draw, Draw: seed})
+				}
+				for b.Len() > 0 {
+					does(t, b, step{Kind: world.StepGive, N: round, Draw: seed})
+				}
+			}
+			if !slices.Equal(a.Events(), b.Events()) || !reflect.DeepEqual(a.Map(), b.Map()) {
+				t.Fatal(seed, i, "a rest is another thing")
+			}
+			for _, node := range []int{0, 1, 8, 9, 10} {
+				if a.Up(node) != b.Up(node) || !reflect.DeepEqual(a.Disk(node), b.Disk(node)) {
+					t.Fatal(seed, i, "a rest is another thing to", node)
+				}
+			}
+		}
+		if len(a.Events()) < 20 {
+			t.Error("too little was done", len(a.Events()))
+		}
 	}
 }
 
