@@ -489,6 +489,10 @@ func TestCompact(t *testing.T) {
 	d.Append("p-log~", []byte("left behind"))
 	d.Append("p-snap~", []byte("left behind"))
 	want(t, "the most data", j.Compact(4, make([]byte, 1<<19)), api.OK)
+	if l := d.List(); !slices.Equal(l, []string{"p-log", "p-snap"}) {
+		t.Errorf("%q", l)
+	}
+	want(t, "it lives", j.SetTerm(5, 0), api.OK)
 	d.Crash(0)
 	j = open(t, d, 6)
 	if index, term := j.Base(); index != 4 || term != 4 {

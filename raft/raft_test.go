@@ -482,7 +482,7 @@ func TestEntriesEndALeader(t *testing.T) {
 	r.Ask(77)
 	r.Hear(msg(2, 0, 3, 2, 1, 1, 1, 0, 0), 5)
 	says(t, "another leader", r, api.Follower, 2, 2)
-	if l := r.Reads(); !slices.Equal(l, []raft.Read{{Ctx: 77, Index: 1}}) {
+	if l := r.Reads(); len(l) != 1 || l[0].Ctx != 77 || l[0].Ok {
 		t.Error(l)
 	}
 	r.Hear(msg(2, 0, 3, 2, 1, 1, 1, 0, 0), 5)
@@ -794,7 +794,7 @@ func TestALeaderThatIsTakenOut(t *testing.T) {
 	r.Hear(msg(2, 0, 4, 1, 1, 2, 0), 0)
 	logs(t, "both", r, 0, 2, 2)
 	says(t, "it steps back", r, api.Follower, 1, -1)
-	if l := r.Reads(); !slices.Equal(l, []raft.Read{{Ctx: 5, Index: 1}}) {
+	if l := r.Reads(); len(l) != 1 || l[0].Ctx != 5 || l[0].Ok {
 		t.Error(l)
 	}
 }

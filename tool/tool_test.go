@@ -63,15 +63,14 @@ func TestLinesThatAreNone(t *testing.T) {
 		"buy 0 a x 1 1", "buy 0 a x 1 1 1 1", "sell 0 a x 1 1", "sell 0 a x 1 1 z", "cancel 0 a x", "cancel 0 a x y", "cancel 0 a x 1 1",
 		"at a", "at a x y", "at  x", "at " + long + " x", "at a " + long, "map 1", "map ", "answers", "answers x", "answers 0 0", "judge 1", "judge ",
 	}
-	for _, head := range []string{"", "new 1 1 1\n"} {
-		for _, line := range bad {
-			want := "? " + line + "\n"
-			if head != "" {
-				want = "ok\n" + want
-			}
-			if got := tool.Run(head + line); got != want {
-				t.Errorf("%q answers %q", head+line, got)
-			}
+	for _, line := range bad {
+		if got := tool.Run("new 1 1 1\n" + line); got != "ok\n? "+line+"\n" {
+			t.Errorf("%q answers %q", line, got)
+		}
+	}
+	for _, line := range []string{"new", "new 1 1", "new 1 1 1 1", "new 1 1 x"} {
+		if got := tool.Run(line); got != "? "+line+"\n" {
+			t.Errorf("%q answers %q, without a world", line, got)
 		}
 	}
 }

@@ -194,12 +194,6 @@ func TestWhatAPurseCantHoldIsLost(t *testing.T) {
 	ordered(t, v, 2, buys("b", 1, 4, 3))
 	has(t, v, "s", items{most})
 	has(t, v, "b", items{50 - 8, most})
-	v = vault.New()
-	v.Put("b", items{9})
-	ordered(t, v, 1, buys("b", 1, 3, 3))
-	v.Put("b", items{most - 2})
-	want(t, "Cancel", v.Cancel("b", 1), api.OK)
-	has(t, v, "b", items{most})
 }
 
 func TestCancel(t *testing.T) {
